@@ -374,9 +374,6 @@ func steady(rate, f, part int) []int {
 func TestNeverMoreThanTheLimit(t *testing.T) {
 	rnd := rand.New(rand.NewSource(98))
 	each(func(rate, f int) {
-		if rate < 900 && rate%7 != 0 {
-			return
-		}
 		never(t, rate, f, steady(rate, f, rnd.Intn(360000)))
 	})
 }
