@@ -155,6 +155,8 @@ func TestRunOfOddNumbers(t *testing.T) {
 	for _, bag := range []int{math.MinInt, -1} {
 		is(t, "no bag", run(256, bag, 1500), run(256, 0, 1500))
 	}
+	is(t, "a bag without a drop", run(256, 0, 400), api.Report{Mode: api.ModeRunning, Pos: run(256, 100, 400).Pos})
+	is(t, "a bag of one drop", run(256, 1, 0).Left, 1)
 	is(t, "a bag that never ends", run(256, math.MaxInt, 1500).Left, math.MaxInt-run(256, math.MaxInt, 1500).Fell)
 	is(t, "no height", run(math.MinInt, 100, 1500), run(0, 100, 1500))
 	is(t, "the greatest height", run(math.MaxInt, 100, 1500), run(1024, 100, 1500))
